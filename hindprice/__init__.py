@@ -1,0 +1,1 @@
+"""Hindprice: what hindsight costs, whatever the market does."""

@@ -1,0 +1,87 @@
+"""Reckoning with numbers that were found to be numbers: nothing is checked here."""
+
+from math import gcd, lcm
+
+
+def top_of(number):
+    """What stands above the line."""
+    if isinstance(number, int):
+        return number
+    return number[0]
+
+
+def bottom_of(number):
+    """What stands below the line, 1 for an integer."""
+    if isinstance(number, int):
+        return 1
+    return number[1]
+
+
+def over(top, bottom):
+    """The number top over bottom, in its one form; bottom is not 0."""
+    if bottom < 0:
+        return over(-top, -bottom)
+    shared = gcd(top, bottom)
+    if shared == bottom:
+        return top // bottom
+    return (top // shared, bottom // shared)
+
+
+def opposite(number):
+    """0 less the number."""
+    if isinstance(number, int):
+        return -number
+    return (-number[0], number[1])
+
+
+def is_less(one, other):
+    """Whether one number is less than another one."""
+    return top_of(one) * bottom_of(other) < top_of(other) * bottom_of(one)
+
+
+def sum_of(numbers):
+    """The sum of a list of numbers."""
+    # Tops are added by their bottoms first: long sums mostly have few bottoms.
+    tops = {}
+    for number in numbers:
+        bottom = bottom_of(number)
+        tops[bottom] = tops.get(bottom, 0) + top_of(number)
+    common = 1
+    for bottom in tops:
+        common = lcm(common, bottom)
+    return over(sum([tops[bottom] * (common // bottom) for bottom in tops]), common)
+
+
+def product_of(numbers):
+    """The product of a list of numbers, 1 of none."""
+    top = 1
+    bottom = 1
+    for number in numbers:
+        top = top * top_of(number)
+        bottom = bottom * bottom_of(number)
+    return over(top, bottom)
+
+
+def ratio(one, other):
+    """One number over another one that is not 0."""
+    return over(top_of(one) * bottom_of(other), bottom_of(one) * top_of(other))
+
+
+def sum_of_products(row, day):
+    """The sum of the products of the numbers of two rows, place by place."""
+    return sum_of([product_of([one, other]) for one, other in zip(row, day)])
+
+
+def integer_power(base, many):
+    """An integer, so many times as a factor."""
+    if many == 0:
+        return 1
+    half = integer_power(base, many // 2)
+    if many % 2 == 1:
+        return half * half * base
+    return half * half
+
+
+def power_of(number, many):
+    """A number, so many times as a factor; no time makes 1."""
+    return over(integer_power(top_of(number), many), integer_power(bottom_of(number), many))
