@@ -5,7 +5,7 @@ import unittest
 from tests.support import ROOT, Case, names
 
 # In the order of the document: examples use names as earlier ones made them last.
-SECTIONS = ["checks", "papers", "numbers"]
+SECTIONS = ["checks", "papers", "numbers", "figures", "days", "words", "promises", "machines"]
 
 
 def examples(section):

@@ -82,6 +82,16 @@ class Papers(Case):
         self.assertIs(Paper("x", {"a": [1]}) == Paper("x", {"a": (1,)}), False)
         self.assertIs(Paper("x", (1, 2)) == Paper("x", 1, 2), False)
 
+    def test_equality_of_words(self):
+        for kind in (Paper, Denial):
+            self.assertIs(kind("x", 1) == kind("y", 1), False)
+            self.assertIs(kind("x", 1) == kind("x", 1), True)
+
+    def test_a_class_of_the_same_name_is_another_one(self):
+        for paper in (Paper("x"), Denial("x")):
+            fake = type(paper.__class__.__name__, (), {"word": "x", "parts": ()})()
+            self.assertIs(paper == fake, False)
+
     def test_other_values_are_unequal(self):
         for value in STRANGE + [("x",), ("x", ()), ()]:
             self.assertIs(Paper("x") == value, False)
