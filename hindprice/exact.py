@@ -67,6 +67,26 @@ def ratio(one, other):
     return over(top_of(one) * bottom_of(other), bottom_of(one) * top_of(other))
 
 
+def greatest_of(numbers):
+    """The greatest of a list of numbers, at least one."""
+    greatest = numbers[0]
+    for number in numbers:
+        if is_less(greatest, number):
+            greatest = number
+    # It may have been passed as a list.
+    return product_of([greatest])
+
+
+def levelled(numbers):
+    """The tops of some numbers over one common bottom, and this bottom."""
+    bottoms = {bottom_of(number): True for number in numbers}
+    common = 1
+    for bottom in bottoms:
+        common = lcm(common, bottom)
+    more = {bottom: common // bottom for bottom in bottoms}
+    return ([top_of(number) * more[bottom_of(number)] for number in numbers], common)
+
+
 def sum_of_products(row, day):
     """The sum of the products of the numbers of two rows, place by place."""
     return sum_of([product_of([one, other]) for one, other in zip(row, day)])

@@ -194,3 +194,43 @@ def all_in(promise):
         found.append(part)
         waiting.extend(parts_in(part)[::-1])
     return tuple(found)
+
+
+def with_parts(promise, parts):
+    """The promise with other parts for as many goods; nothing is checked."""
+    # It is made with small parts first: what is returned may have more levels
+    # and promises in it than callers may make.
+    small = Hold(promise.goods, 0)
+    made = promise
+    if isinstance(promise, Times):
+        made = Times(promise.number, small)
+        made.part = parts[0]
+    elif isinstance(promise, Sum):
+        made = Sum((small,))
+        made.parts = tuple(parts)
+    elif isinstance(promise, Greatest):
+        made = Greatest((small,))
+        made.parts = tuple(parts)
+    elif isinstance(promise, Then):
+        made = Then(promise.days, small, small)
+        made.first = parts[0]
+        made.last = parts[1]
+    made._measure(promise.goods, parts)
+    return made
+
+
+def times_of(number, part):
+    """So many times a promise, whatever levels it has; nothing is checked."""
+    return with_parts(Times(number, Hold(part.goods, 0)), (part,))
+
+
+def then_of(days, first, last):
+    """One promise behind another one, whatever levels they have; nothing is checked."""
+    return with_parts(Then(days, Hold(first.goods, 0), Hold(first.goods, 0)), (first, last))
+
+
+def best_of(counts):
+    """The best mix behind these counts, however great; nothing is checked."""
+    made = BestMix(len(counts), [0] * len(counts))
+    made.counts = tuple(counts)
+    return made

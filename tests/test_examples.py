@@ -5,7 +5,8 @@ import unittest
 from tests.support import ROOT, Case, names
 
 # In the order of the document: examples use names as earlier ones made them last.
-SECTIONS = ["checks", "papers", "numbers", "figures", "days", "words", "promises", "machines"]
+SECTIONS = ["checks", "papers", "numbers", "figures", "days", "words", "promises", "promise_texts", "worths", "afters",
+            "machines", "walks", "prices"]
 
 
 def examples(section):

@@ -141,11 +141,24 @@ class Language(unittest.TestCase):
                 if isinstance(node, ast.Assign):
                     self.assertEqual(len(node.targets), 1, path)
                     self.assertIsInstance(node.targets[0], ast.Name)
-                    ast.literal_eval(node.value)
+                    self.check_value(tree, node.value)
                 elif isinstance(node, ast.Expr):
                     self.assertEqual(at, 0, path)
                 else:
                     self.assertIsInstance(node, (ast.ImportFrom, ast.FunctionDef, ast.ClassDef), path)
+
+    def check_value(self, tree, value):
+        """A plain value, or a dict of such and of functions that are defined above."""
+        if not isinstance(value, ast.Dict):
+            ast.literal_eval(value)
+            return
+        above = {item.name for item in tree.body if isinstance(item, ast.FunctionDef) and item.lineno < value.lineno}
+        for key, item in zip(value.keys, value.values):
+            ast.literal_eval(key)
+            if isinstance(item, ast.Name):
+                self.assertIn(item.id, above)
+            else:
+                ast.literal_eval(item)
 
     def test_statements_and_expressions(self):
         for place, node in self.each(ast.stmt):
