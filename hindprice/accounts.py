@@ -118,7 +118,8 @@ class WordsAccount:
         """The account behind one more day."""
         tops, bottom = levelled(self.table)
         numbers, under = levelled(day)
-        made = [in_all(column, numbers) for column in zip(*by_goods(tops, self.goods))]
+        rows = by_goods(tops, self.goods)
+        made = [in_all(column, numbers) for column in zip(*rows)]
         return WordsAccount(self.goods, over_all(made, bottom * under))
 
 

@@ -6,7 +6,7 @@ from tests.support import ROOT, Case, names
 
 # In the order of the document: examples use names as earlier ones made them last.
 SECTIONS = ["checks", "papers", "numbers", "figures", "days", "words", "promises", "promise_texts", "worths", "afters",
-            "machines", "walks", "prices"]
+            "machines", "walks", "prices", "books", "spares", "sellers", "robbers", "check_sellers"]
 
 
 def examples(section):

@@ -224,6 +224,25 @@ class Language(unittest.TestCase):
             for item in node.decorator_list:
                 self.assertIn(getattr(item, "id", ""), ("property", "staticmethod", "classmethod"), place)
 
+    def test_stars_in_calls(self):
+        for place, node in self.each(ast.Call):
+            for item in node.args:
+                if isinstance(item, ast.Starred):
+                    self.assertIsInstance(item.value, (ast.Name, ast.Attribute), place)
+                    self.assertEqual(node.keywords, [], place)
+            for item in node.keywords:
+                self.assertIsNotNone(item.arg, place)
+
+    def test_kept_ranges(self):
+        for place, node in self.each(ast.FunctionDef):
+            stored = [item.id for item in ast.walk(node) if isinstance(item, ast.Name) and isinstance(item.ctx, ast.Store)]
+            for item in ast.walk(node):
+                if isinstance(item, ast.Assign) and isinstance(item.value, ast.Call):
+                    kept = getattr(item.value.func, "id", getattr(item.value.func, "attr", ""))
+                    self.assertNotIn(kept, ("zip", "enumerate", "reversed", "items", "keys", "values", "map"), place)
+                    if kept == "range":
+                        self.assertEqual(stored.count(item.targets[0].id), 1, place)
+
     def test_attributes(self):
         assigned, read = set(), {}
         for place, node in self.each(ast.Attribute):
