@@ -10,6 +10,7 @@ from hindprice.promises import Hold, Mix, Sum, Then, Times
 from hindprice.tables import count_table, counted_more, is_without_order, word_table
 from hindprice.words import all_counts, need_few_counts, need_few_words, ways
 
+
 def need_few(promise, days):
     """There may not be more to go through for the price of a promise than is gone through."""
     if isinstance(promise, Times):

@@ -198,10 +198,11 @@ def all_in(promise):
 
 def with_parts(promise, parts):
     """The promise with other parts for as many goods; nothing is checked."""
+    if len(parts) == 0:
+        return promise
     # It is made with small parts first: what is returned may have more levels
     # and promises in it than callers may make.
     small = Hold(promise.goods, 0)
-    made = promise
     if isinstance(promise, Times):
         made = Times(promise.number, small)
         made.part = parts[0]
@@ -211,7 +212,7 @@ def with_parts(promise, parts):
     elif isinstance(promise, Greatest):
         made = Greatest((small,))
         made.parts = tuple(parts)
-    elif isinstance(promise, Then):
+    else:
         made = Then(promise.days, small, small)
         made.first = parts[0]
         made.last = parts[1]

@@ -19,23 +19,29 @@ def pays_of(rows, numbers):
     return [sum([share * number for share, number in zip(row, numbers)]) for row in rows]
 
 
-def carried(machine, weights, pays):
+def begins_to(machine):
+    """For each standing those from which arrows lead to it."""
+    return [[begin for begin, end in machine.arrows if end == standing] for standing in range(machine.many)]
+
+
+def paid_to(weights, pays):
+    """The weights of standings, each times what the standing is paid."""
+    return [weight * pay for weight, pay in zip(weights, pays)]
+
+
+def carried(begins, made):
     """For each standing the greatest that an arrow brings to it, 0 without one."""
-    made = [weight * pay for weight, pay in zip(weights, pays)]
-    brought = [0] * machine.many
-    for begin, end in machine.arrows:
-        if made[begin] > brought[end]:
-            brought[end] = made[begin]
-    return brought
+    return [max([made[begin] for begin in those], default=0) for those in begins]
 
 
 def carried_over(machine, weights, market):
     """The weights behind a market, as tops over one bottom, and this bottom."""
     rows, low = shares_of(machine)
     weights, bottom = levelled(weights)
+    begins = begins_to(machine)
     for day in market:
         numbers, under = levelled(day)
-        weights = carried(machine, weights, pays_of(rows, numbers))
+        weights = carried(begins, paid_to(weights, pays_of(rows, numbers)))
         bottom = bottom * low * under
     return (weights, bottom)
 

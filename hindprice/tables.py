@@ -19,8 +19,33 @@ from hindprice.promises import (
     all_in,
     parts_in,
 )
-from hindprice.steps import carried, shares_of
+from hindprice.steps import begins_to, carried, paid_to, shares_of
 from hindprice.words import all_counts
+
+# From so many bits on a product takes longer than to look at its factors' first ones.
+LONG = 4000
+FIRST_BITS = 64
+
+
+def first_bits(number):
+    """The first bits of an integer from 0 on, and how many stand behind them."""
+    behind = max(0, number.bit_length() - FIRST_BITS)
+    return (number >> behind, behind)
+
+
+def about(one, other):
+    """What a product is at least, and what it is below, both without so many bits behind."""
+    first, behind = first_bits(one)
+    last, more = first_bits(other)
+    return (first * last, (first + 1) * (last + 1), behind + more)
+
+
+def is_surely_lower(one, other):
+    """Whether what one product is below is not above what another one is at least."""
+    _, most, behind = one
+    least, _, more = other
+    common = min(behind, more)
+    return most << (behind - common) <= least << (more - common)
 
 
 def is_lower(one, other):
@@ -35,6 +60,11 @@ def is_lower(one, other):
     there = more.bit_length() + bottom.bit_length()
     if here + 1 < there or there + 1 < here:
         return here < there
+    if here > LONG:
+        near = about(top, low)
+        other_near = about(more, bottom)
+        if is_surely_lower(near, other_near) or is_surely_lower(other_near, near):
+            return is_surely_lower(near, other_near)
     return top * low < more * bottom
 
 
@@ -164,11 +194,15 @@ def walk_table(promise, days):
     machine = promise.machine
     weights, bottom = levelled(promise.weights)
     rows, low = shares_of(machine)
-    reached = [weights]
-    for _ in range(days):
-        reached = [carried(machine, row, paid) for row in reached for paid in zip(*rows)]
+    begins = begins_to(machine)
+    made = [weights]
+    for day in range(days):
+        # Behind the last day nothing is carried on: an arrow leads on from each standing.
+        if day > 0:
+            made = [carried(begins, row) for row in made]
+        made = [paid_to(row, pays) for row in made for pays in zip(*rows)]
     bottom = bottom * integer_power(low, days)
-    return [(max(row), bottom) for row in reached]
+    return [(max(row), bottom) for row in made]
 
 
 def word_table(promise, days):

@@ -66,7 +66,7 @@ def leaf_worth(promise, market):
     return walk_worth_of(promise.machine, promise.weights, market)
 
 
-def best_worth(counts):
+def made_by_counts(counts):
     """What the best mix has made where the goods came so often."""
     made = 1
     for count in counts:
@@ -79,7 +79,7 @@ def leaf_worth_at(promise, word):
     """What a promise without parts is worth at a word."""
     if isinstance(promise, BestMix):
         came = counts_of(promise.goods, word)
-        return best_worth([count + more for count, more in zip(promise.counts, came)])
+        return made_by_counts([count + more for count, more in zip(promise.counts, came)])
     return leaf_worth(promise, [lightning_of(promise.goods, good) for good in word])
 
 

@@ -131,11 +131,20 @@ class ByHand(Case):
     def test_less_or_not(self):
         chance = random.Random(108)
         for _ in range(5000):
-            bits = chance.choice((2, 4, 40, 200))
+            bits = chance.choice((2, 4, 40, 200, 2500))
             one, other = [(chance.choice((0, 1, chance.getrandbits(bits))), 1 + chance.choice((0, chance.getrandbits(bits))))
                           for _ in range(2)]
             self.assertIs(is_lower(one, other), one[0] * other[1] < other[0] * one[1])
             self.assertIs(is_lower(one, (one[0] * 3, one[1] * 3)), False)
+
+    def test_what_is_lower_by_little(self):
+        chance = random.Random(45)
+        for _ in range(500):
+            bits = chance.choice((2, 63, 64, 65, 200, 1000, 3000))
+            top, bottom, times = [1 + chance.getrandbits(bits) for _ in range(3)]
+            near = (top * times + chance.choice((-1, 0, 1, 1 << chance.randrange(bits))), bottom * times)
+            self.assertIs(is_lower((top, bottom), near), top * times < near[0])
+            self.assertIs(is_lower(near, (top, bottom)), near[0] < top * times)
 
     def test_great_numbers(self):
         promise = Greatest([Mix([(1, GREAT), (GREAT - 1, GREAT)]), Times((GREAT + 1, GREAT - 1), Mix(HALF)),
