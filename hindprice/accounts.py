@@ -5,10 +5,11 @@ change: each day leads on to another one.
 """
 
 from hindprice.days import lightning_of
-from hindprice.exact import levelled, product_of, sum_of, sum_of_products
+from hindprice.exact import product_of, sum_of, sum_of_products
 from hindprice.promises import Hold, Mix, Sum, Then, Times
-from hindprice.tables import count_table, counted_more, is_without_order, word_table
-from hindprice.words import all_counts, need_few_counts, need_few_words, ways
+from hindprice.tables import is_without_order
+from hindprice.strands import counts_account, words_account
+from hindprice.words import need_few_counts, need_few_words
 
 
 def need_few(promise, days):
@@ -34,6 +35,10 @@ class MixAccount:
         self.shares = shares
         self.purse = purse
 
+    def whole(self):
+        """The purse."""
+        return self.purse
+
     def lying(self):
         """What lies on each good for the next day."""
         return [product_of([self.purse, share]) for share in self.shares]
@@ -49,7 +54,10 @@ class TimesAccount:
     def __init__(self, number, part):
         self.number = number
         self.part = part
-        self.purse = product_of([number, part.purse])
+
+    def whole(self):
+        """The purse."""
+        return product_of([self.number, self.part.whole()])
 
     def lying(self):
         """What lies on each good for the next day."""
@@ -65,7 +73,10 @@ class SumAccount:
 
     def __init__(self, parts):
         self.parts = parts
-        self.purse = sum_of([part.purse for part in parts])
+
+    def whole(self):
+        """The purse."""
+        return sum_of([part.whole() for part in self.parts])
 
     def lying(self):
         """What lies on each good for the next day."""
@@ -84,96 +95,24 @@ class ThenAccount:
         self.days = days
         self.first = first
         self.last = last
-        self.purse = product_of([first.purse, last.purse])
+
+    def whole(self):
+        """The purse."""
+        return product_of([self.first.whole(), self.last.whole()])
 
     def lying(self):
         """What lies on each good for the next day."""
         if self.days > 0:
-            return [product_of([number, self.last.purse]) for number in self.first.lying()]
-        return [product_of([number, self.first.purse]) for number in self.last.lying()]
+            whole = self.last.whole()
+            return [product_of([number, whole]) for number in self.first.lying()]
+        whole = self.first.whole()
+        return [product_of([number, whole]) for number in self.last.lying()]
 
     def behind(self, day):
         """The account behind one more day."""
         if self.days > 0:
             return ThenAccount(self.days - 1, self.first.behind(day), self.last)
         return ThenAccount(0, self.first, self.last.behind(day))
-
-
-class WordsAccount:
-    """The worths at the words of the days that are left, ascending.
-
-    Each worth is the sum, over all words of the days that came, of the word's
-    weight times the worth at it and the word of the days that are left.
-    """
-
-    def __init__(self, goods, table):
-        self.goods = goods
-        self.table = table
-        self.purse = sum_of(table)
-
-    def lying(self):
-        """What lies on each good for the next day."""
-        return [sum_of(pairs) for pairs in by_goods(self.table, self.goods)]
-
-    def behind(self, day):
-        """The account behind one more day."""
-        tops, bottom = levelled(self.table)
-        numbers, under = levelled(day)
-        rows = by_goods(tops, self.goods)
-        made = [in_all(column, numbers) for column in zip(*rows)]
-        return WordsAccount(self.goods, over_all(made, bottom * under))
-
-
-class CountsAccount:
-    """The same as WordsAccount by counts: words with the same counts are worth the same."""
-
-    def __init__(self, goods, days, table):
-        self.goods = goods
-        self.days = days
-        self.table = table
-        self.places = all_counts(goods, days)
-        self.ways = [ways(counts) for counts in self.places]
-        self.purse = sum_of_so_many(table, self.ways)
-
-    def lying(self):
-        """What lies on each good for the next day."""
-        # Of the words with some counts, as large a part begins with a good as
-        # its count is of all days.
-        begun = [[many * counts[good] // self.days for many, counts in zip(self.ways, self.places)]
-                 for good in range(self.goods)]
-        return [sum_of_so_many(self.table, row) for row in begun]
-
-    def behind(self, day):
-        """The account behind one more day."""
-        tops, bottom = levelled(self.table)
-        numbers, under = levelled(day)
-        known = {}
-        for counts, top in zip(self.places, tops):
-            known[counts] = top
-        made = [in_all([known[counted_more(counts, good)] for good in range(self.goods)], numbers)
-                for counts in all_counts(self.goods, self.days - 1)]
-        return CountsAccount(self.goods, self.days - 1, over_all(made, bottom * under))
-
-
-def in_all(tops, numbers):
-    """The sum of integers, each times its number."""
-    return sum([top * number for top, number in zip(tops, numbers)])
-
-
-def sum_of_so_many(table, many):
-    """The sum of the pairs of a table, each so many times."""
-    return sum_of([(top * times, bottom) for (top, bottom), times in zip(table, many)])
-
-
-def over_all(tops, bottom):
-    """The table of integers over one bottom."""
-    return [(top, bottom) for top in tops]
-
-
-def by_goods(items, goods):
-    """What there is for each word, good by good of the first ones of the words."""
-    size = len(items) // goods
-    return [items[good * size:(good + 1) * size] for good in range(goods)]
 
 
 def account_of(promise, days):
@@ -190,11 +129,16 @@ def account_of(promise, days):
         ahead = min(days, promise.days)
         first = account_of(promise.first, ahead)
         return ThenAccount(ahead, first, account_of(promise.last, days - ahead))
+    return gone_through(promise, days)
+
+
+def gone_through(promise, days):
+    """The account of a promise that is told by all counts, or by all words."""
     if is_without_order(promise):
-        return CountsAccount(promise.goods, days, count_table(promise, days))
-    return WordsAccount(promise.goods, word_table(promise, days))
+        return counts_account(promise, days)
+    return words_account(promise, days)
 
 
 def price_of(promise, days):
     """The price of a promise for so many days."""
-    return account_of(promise, days).purse
+    return account_of(promise, days).whole()

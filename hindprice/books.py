@@ -40,7 +40,7 @@ class Book:
         self.market = market
         self.left = left
         self.account = account
-        self.purse = account.purse
+        self.purse = account.whole()
         self.amounts = lying_in(account, left)
 
     def day(self, day):

@@ -39,8 +39,8 @@ def is_less(one, other):
     return top_of(one) * bottom_of(other) < top_of(other) * bottom_of(one)
 
 
-def sum_of(numbers):
-    """The sum of a list of numbers."""
+def added(numbers):
+    """The sum of a list of numbers, or of pairs that need not be in their one form: a top and a bottom."""
     # Tops are added by their bottoms first: long sums mostly have few bottoms.
     tops = {}
     for number in numbers:
@@ -49,7 +49,13 @@ def sum_of(numbers):
     common = 1
     for bottom in tops:
         common = lcm(common, bottom)
-    return over(sum([tops[bottom] * (common // bottom) for bottom in tops]), common)
+    return (sum([tops[bottom] * (common // bottom) for bottom in tops]), common)
+
+
+def sum_of(numbers):
+    """The sum of a list of numbers."""
+    top, bottom = added(numbers)
+    return over(top, bottom)
 
 
 def product_of(numbers):

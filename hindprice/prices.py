@@ -3,9 +3,10 @@
 from hindprice.accounts import need_few, price_of
 from hindprice.afters import left_behind_word
 from hindprice.errors import BadPromise, Misfit
-from hindprice.exact import over, sum_of
+from hindprice.exact import added, over
 from hindprice.needs import need_days, need_word
 from hindprice.promises import need_promise
+from hindprice.strands import words_purse
 from hindprice.tables import greatest_place, is_without_order, lesser_table, word_table
 from hindprice.words import need_few_words, words_of
 
@@ -46,12 +47,19 @@ def is_orderless(promise):
     return is_without_order(promise)
 
 
+def worth_in(table, place):
+    """The worth that a table has at a place."""
+    top, bottom = added(table.pieces(place))
+    return over(top, bottom)
+
+
 def worths_of(promise, days):
     """The worths at all words of so many goods, in their order."""
     need_promise(promise, "promise")
     need_days(days)
     need_few_words(promise.goods, days)
-    return tuple([over(top, bottom) for top, bottom in word_table(promise, days)])
+    table = word_table(promise, days)
+    return tuple([worth_in(table, place) for place in range(len(table.abouts))])
 
 
 def richest(promise, days):
@@ -61,8 +69,7 @@ def richest(promise, days):
     need_few_words(promise.goods, days)
     table = word_table(promise, days)
     place = greatest_place(table)
-    top, bottom = table[place]
-    return (words_of(promise.goods, days)[place], over(top, bottom))
+    return (words_of(promise.goods, days)[place], worth_in(table, place))
 
 
 def shared(one, other, days):
@@ -73,4 +80,4 @@ def shared(one, other, days):
         raise BadPromise("other")
     need_days(days)
     need_few_words(one.goods, days)
-    return sum_of(lesser_table(word_table(one, days), word_table(other, days)))
+    return words_purse(lesser_table(word_table(one, days), word_table(other, days)))

@@ -3,12 +3,12 @@
 from hindprice.accounts import account_of, need_few
 from hindprice.days import lightning_of
 from hindprice.errors import BadSeller, Misfit
-from hindprice.exact import is_less, product_of
+from hindprice.exact import bottom_of, is_less, product_of, top_of
 from hindprice.needs import need_days
 from hindprice.papers import Denial, Paper
 from hindprice.promises import need_promise
 from hindprice.sellers import has_at, need_seller
-from hindprice.tables import word_table
+from hindprice.tables import is_above, word_table
 from hindprice.words import need_few_words, words_of
 from hindprice.worths import owed_at
 
@@ -43,19 +43,20 @@ def robbed_at(promise, seller, word):
 
 
 def all_had(seller, days):
-    """What a seller has at all words of so many goods, ascending."""
+    """What a seller has at all words of so many goods, ascending, as pairs that need not be in their one form."""
     leads = [list(zip(shares, nexts)) for shares, nexts in seller.rows]
-    ways = [(seller.purse, 0)]
+    ways = [(top_of(seller.purse), bottom_of(seller.purse), 0)]
     for _ in range(days):
-        ways = [(product_of([number, share]), end) for number, standing in ways for share, end in leads[standing]]
-    return [number for number, _ in ways]
+        ways = [(top * top_of(share), bottom * bottom_of(share), end)
+                for top, bottom, standing in ways for share, end in leads[standing]]
+    return [(top, bottom) for top, bottom, _ in ways]
 
 
 def first_short(promise, days, seller):
     """The first word of so many goods at which a seller is short, None without one."""
     owed = word_table(promise, days)
     for place, number in enumerate(all_had(seller, days)):
-        if is_less(number, owed[place]):
+        if is_above(owed, place, number):
             return words_of(promise.goods, days)[place]
     return None
 
@@ -75,7 +76,7 @@ def robbed(promise, days, seller):
     need_sold(promise, days, seller)
     need_few(promise, days)
     account = account_of(promise, days)
-    if not is_less(seller.purse, account.purse):
+    if not is_less(seller.purse, account.whole()):
         raise Misfit("seller")
     course = []
     purse = seller.purse

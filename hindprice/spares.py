@@ -25,7 +25,7 @@ def spare(promise, days, market):
     for day in market:
         account = account.behind(day)
         left = left_behind(left, day)
-    return sum_of([account.purse, opposite(price_of(left, days - len(market)))])
+    return sum_of([account.whole(), opposite(price_of(left, days - len(market)))])
 
 
 class Thrift:
@@ -50,7 +50,7 @@ class Thrift:
         self.market = market
         self.left = left
         self.remains = remains
-        self.purse = account.purse
+        self.purse = account.whole()
         self.amounts = lying_in(account, left)
 
     def day(self, day):
