@@ -18,9 +18,13 @@ class Bottoms:
     def __init__(self, bottoms):
         self.more, self.common = levelled([(1, bottom) for bottom in bottoms])
 
+    def top(self, tops):
+        """The sum of integers, one over each bottom, over the one for all."""
+        return sum([top * more for top, more in zip(tops, self.more)])
+
     def total(self, tops, under):
-        """The sum of integers, one over each bottom, all of it over one more bottom."""
-        return over(sum([top * more for top, more in zip(tops, self.more)]), self.common * under)
+        """The same sum as a number, all of it over one more bottom."""
+        return over(self.top(tops), self.common * under)
 
 
 def strands_of(table, places):

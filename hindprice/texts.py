@@ -2,16 +2,29 @@
 
 from hindprice.checks import is_from_0, is_number, is_within
 from hindprice.errors import BadText
-from hindprice.exact import bottom_of, top_of
+from hindprice.exact import bottom_of, integer_power, top_of
 
 MOST_DIGITS = 60
+SHORT_BITS = 10000
+
+
+def integer_item(number):
+    """The item that writes an integer, however many digits it has: Python itself writes only so many at once."""
+    if number < 0:
+        return "-" + integer_item(-number)
+    if number.bit_length() < SHORT_BITS:
+        return str(number)
+    # Some 10 bits make 3 digits: this is about the half of all.
+    many = number.bit_length() // 7
+    whole, rest = divmod(number, integer_power(10, many))
+    return integer_item(whole) + integer_item(rest).zfill(many)
 
 
 def number_item(number):
     """The item that writes a number."""
     if bottom_of(number) == 1:
-        return str(top_of(number))
-    return f"{top_of(number)}/{bottom_of(number)}"
+        return integer_item(top_of(number))
+    return f"{integer_item(top_of(number))}/{integer_item(bottom_of(number))}"
 
 
 def is_digits(text):
@@ -81,7 +94,11 @@ class Reader:
         """The item that was taken last cannot stand."""
         raise BadText(self.at - 1)
 
+    def is_more(self):
+        """Whether an item is left."""
+        return self.at < len(self.pieces)
+
     def finish(self):
         """No item may be left."""
-        if self.at < len(self.pieces):
+        if self.is_more():
             raise BadText(self.at)

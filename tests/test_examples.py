@@ -7,7 +7,7 @@ from tests.support import ROOT, Case, names
 # In the order of the document: examples use names as earlier ones made them last.
 SECTIONS = ["checks", "papers", "numbers", "figures", "days", "words", "promises", "promise_texts", "worths", "afters",
             "machines", "walks", "prices", "books", "spares", "sellers", "robbers", "check_sellers", "bests", "betters",
-            "growth", "check_growth", "corners"]
+            "growth", "check_growth", "corners", "corner_prices", "codes", "lags", "evens", "desks"]
 
 
 def examples(section):
