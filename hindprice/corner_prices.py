@@ -12,7 +12,7 @@ from hindprice.checks import is_list, is_number
 from hindprice.corners import is_between_of, need_corner, parts_at
 from hindprice.days import lightning_of
 from hindprice.errors import BadCorner, BadMarket, BadNumber, Misfit
-from hindprice.exact import is_less, levelled, product_of, sum_of, sum_of_products
+from hindprice.exact import is_less, levelled, ratio, sum_of, sum_of_products
 from hindprice.machines import Machine
 from hindprice.needs import need_days, need_word
 from hindprice.promises import BestWalk, Hold, Mix, need_promise, parts_in, with_parts
@@ -50,9 +50,8 @@ class CornerAccount:
 
     def behind_parts(self, parts):
         """Behind the day that has these parts."""
-        over_bottoms = [product_of([part, (1, bottom)]) if bottom > 1 else part
-                        for part, bottom in zip(parts, bottoms_of(self.corner))]
-        return CornerAccount(self.corner, self.account.behind(over_bottoms), self.left - 1)
+        day = [ratio(part, bottom) for part, bottom in zip(parts, bottoms_of(self.corner))]
+        return CornerAccount(self.corner, self.account.behind(day), self.left - 1)
 
     def behind_row(self, row):
         """Behind the row of this index."""
@@ -60,9 +59,10 @@ class CornerAccount:
 
     def behind_rows(self, word):
         """Behind the rows of a word."""
-        if len(word) == 0:
-            return self
-        return self.behind_row(word[0]).behind_rows(word[1:])
+        account = self
+        for row in word:
+            account = account.behind_row(row)
+        return account
 
     def rest(self):
         """What all that may come costs: the sum over all words of the days that are left, by their weights."""
