@@ -40,8 +40,9 @@ class Book:
         self.market = market
         self.left = left
         self.account = account
-        self.purse = account.whole()
+        # The amounts tell the purse, too.
         self.amounts = lying_in(account, left)
+        self.purse = account.whole()
 
     def day(self, day):
         """The day comes; the purse behind it."""

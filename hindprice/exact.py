@@ -27,6 +27,32 @@ def over(top, bottom):
     return (top // shared, bottom // shared)
 
 
+def common_part(top, bottom, shared):
+    """The greatest integer that divides both, and that has no prime that shared has not; shared divides top."""
+    part = shared
+    more = gcd(top % (part * part), part * part)
+    while more != part:
+        part = more
+        more = gcd(top % (part * part), part * part)
+    return gcd(bottom % part, part)
+
+
+def over_by(top, bottom, bases):
+    """The number top over bottom, in its one form; each prime in bottom is in one of the bases."""
+    if top == 0 or 8 * sum([base.bit_length() for base in bases]) > bottom.bit_length():
+        return over(top, bottom)
+    # Far shorter integers tell what both have in common: mostly nothing, or little.
+    for base in bases:
+        shared = gcd(top % base, base)
+        if shared > 1:
+            common = common_part(top, bottom, shared)
+            top = top // common
+            bottom = bottom // common
+    if bottom == 1:
+        return top
+    return (top, bottom)
+
+
 def opposite(number):
     """0 less the number."""
     if isinstance(number, int):

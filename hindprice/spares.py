@@ -4,7 +4,7 @@ from hindprice.accounts import account_of, need_few, price_of
 from hindprice.afters import left_behind
 from hindprice.books import lying_in, need_next_day
 from hindprice.errors import Misfit
-from hindprice.exact import opposite, sum_of, sum_of_products
+from hindprice.exact import opposite, sum_of
 from hindprice.needs import need_days, need_market
 from hindprice.papers import fixed
 from hindprice.promises import need_promise
@@ -46,17 +46,18 @@ class Thrift:
 
     def _stand(self, market, left, remains):
         """Behind these days, with so many left, it is the book of the promise that remains."""
-        account = account_of(remains, left)
+        self.account = account_of(remains, left)
         self.market = market
         self.left = left
         self.remains = remains
-        self.purse = account.whole()
-        self.amounts = lying_in(account, left)
+        # The amounts tell the purse, too.
+        self.amounts = lying_in(self.account, left)
+        self.purse = self.account.whole()
 
     def day(self, day):
         """The day comes; what is taken out behind it."""
         need_next_day(self, day)
-        made = sum_of_products(self.amounts, day)
+        made = self.account.behind(day).whole()
         self._stand((*self.market, fixed(day)), self.left - 1, left_behind(self.remains, day))
         over = sum_of([made, opposite(self.purse)])
         self.taken = sum_of([self.taken, over])
@@ -67,6 +68,7 @@ class Thrift:
         other = Thrift(self.promise, 0)
         other.market = self.market
         other.left = self.left
+        other.account = self.account
         other.remains = self.remains
         other.purse = self.purse
         other.amounts = self.amounts

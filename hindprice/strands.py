@@ -3,28 +3,54 @@
 Behind some days each worth is the sum, over all words of these days, of the
 word's weight times the worth at it and the place behind it. Worths are kept as
 strands: a strand has a bottom, and a top for some of the places; a worth is the
-sum of what all strands have for its place, over one more bottom, which is under.
+sum of what all strands have for its place, over the bottoms of the days that came.
 Nothing is checked here.
 """
 
-from hindprice.exact import levelled, over
+from math import gcd
+
+from hindprice.exact import levelled, over_by
 from hindprice.tables import count_table, word_table
 from hindprice.words import all_counts, ways
 
 
 class Bottoms:
-    """The bottoms of strands; common is one for all, and more so many times what each of them is."""
+    """The bottoms of strands, and one for all of them: it is found two by two, and so are sums over it.
 
-    def __init__(self, bottoms):
-        self.more, self.common = levelled([(1, bottom) for bottom in bottoms])
+    A level tells for each two of what is left by the level ahead, in order, how
+    many times each of both is to be taken; one that is over is left as it is.
+    """
+
+    def __init__(self, bottoms, bases):
+        self.bases = sorted(set(bases))
+        self.levels = []
+        row = [1, *bottoms]
+        while len(row) > 1:
+            level = [times_to_common(row[at], row[at + 1]) for at in range(0, len(row) - 1, 2)]
+            self.levels.append(level)
+            row = [*[row[2 * at] * times for at, (times, _) in enumerate(level)], *row[2 * len(level):]]
+        self.common = row[0]
 
     def top(self, tops):
         """The sum of integers, one over each bottom, over the one for all."""
-        return sum([top * more for top, more in zip(tops, self.more)])
+        row = [0, *tops]
+        for level in self.levels:
+            row = [*[row[2 * at] * times + row[2 * at + 1] * more for at, (times, more) in enumerate(level)],
+                   *row[2 * len(level):]]
+        return row[0]
 
-    def total(self, tops, under):
-        """The same sum as a number, all of it over one more bottom."""
-        return over(self.top(tops), self.common * under)
+    def number(self, top, days):
+        """An integer over the bottom for all and over those of some days."""
+        bottom = self.common
+        for under in days:
+            bottom = bottom * under
+        return over_by(top, bottom, [*self.bases, *days])
+
+
+def times_to_common(one, other):
+    """How many times two bottoms are to be taken for one that both have in common."""
+    shared = gcd(one, other)
+    return (other // shared, one // shared)
 
 
 def strands_of(table, places):
@@ -41,32 +67,35 @@ def strands_of(table, places):
 class WordsAccount:
     """The worths at words, each told by its place among all of them, of which there are many."""
 
-    def __init__(self, goods, many, strands, bottoms, under):
+    def __init__(self, goods, many, strands, bottoms, days):
         self.goods = goods
         self.many = many
         self.strands = strands
         self.bottoms = bottoms
-        self.under = under
+        self.days = days
         self.purse = None
 
     def whole(self):
         """The purse."""
         if self.purse is None:
-            self.purse = self.bottoms.total([sum(list(strand.values())) for strand in self.strands], self.under)
+            top = self.bottoms.top([sum(list(strand.values())) for strand in self.strands])
+            self.purse = self.bottoms.number(top, self.days)
         return self.purse
 
     def lying(self):
         """What lies on each good for the next day."""
         size = self.many // self.goods
-        return [self.bottoms.total([begun_with(strand, size, good) for strand in self.strands], self.under)
+        tops = [self.bottoms.top([begun_with(strand, size, good) for strand in self.strands])
                 for good in range(self.goods)]
+        self.purse = self.bottoms.number(sum(tops), self.days)
+        return [self.bottoms.number(top, self.days) for top in tops]
 
     def behind(self, day):
         """The account behind one more day."""
         numbers, under = levelled(day)
         size = self.many // self.goods
         strands = [words_behind(strand, size, numbers) for strand in self.strands]
-        return WordsAccount(self.goods, size, strands, self.bottoms, self.under * under)
+        return WordsAccount(self.goods, size, strands, self.bottoms, [*self.days, under])
 
 
 def begun_with(strand, size, good):
@@ -86,38 +115,40 @@ def words_behind(strand, size, numbers):
 class CountsAccount:
     """The same by counts: words with the same counts are worth the same."""
 
-    def __init__(self, goods, days, strands, bottoms, under):
+    def __init__(self, goods, left, strands, bottoms, days):
         self.goods = goods
-        self.days = days
+        self.left = left
         self.strands = strands
         self.bottoms = bottoms
-        self.under = under
+        self.days = days
         self.purse = None
 
-    def _sum(self, many):
-        """The sum of the worths, each so many times as is told for its counts."""
-        tops = [sum([top * many[counts] for counts, top in strand.items()]) for strand in self.strands]
-        return self.bottoms.total(tops, self.under)
+    def _top(self, many):
+        """The sum of the worths, each so many times as is told for its counts, over the bottom for all."""
+        return self.bottoms.top([sum([top * many[counts] for counts, top in strand.items()])
+                                 for strand in self.strands])
 
     def whole(self):
         """The purse."""
         if self.purse is None:
-            self.purse = self._sum(all_ways(self.goods, self.days))
+            self.purse = self.bottoms.number(self._top(all_ways(self.goods, self.left)), self.days)
         return self.purse
 
     def lying(self):
         """What lies on each good for the next day."""
         # Of the words with some counts, as large a part begins with a good as
         # its count is of all days.
-        many = all_ways(self.goods, self.days)
-        return [self._sum({counts: many[counts] * counts[good] // self.days for counts in many})
+        many = all_ways(self.goods, self.left)
+        tops = [self._top({counts: many[counts] * counts[good] // self.left for counts in many})
                 for good in range(self.goods)]
+        self.purse = self.bottoms.number(sum(tops), self.days)
+        return [self.bottoms.number(top, self.days) for top in tops]
 
     def behind(self, day):
         """The account behind one more day."""
         numbers, under = levelled(day)
         strands = [counts_behind(strand, numbers) for strand in self.strands]
-        return CountsAccount(self.goods, self.days - 1, strands, self.bottoms, self.under * under)
+        return CountsAccount(self.goods, self.left - 1, strands, self.bottoms, [*self.days, under])
 
 
 def all_ways(goods, days):
@@ -140,7 +171,7 @@ def words_account_of(table, goods):
     """The account of a table at all words of so many goods, ahead of all days."""
     many = len(table.abouts)
     strands = strands_of(table, list(range(many)))
-    return WordsAccount(goods, many, list(strands.values()), Bottoms(list(strands)), 1)
+    return WordsAccount(goods, many, list(strands.values()), Bottoms(list(strands), table.bases()), [])
 
 
 def words_purse(table):
@@ -155,5 +186,6 @@ def words_account(promise, days):
 
 def counts_account(promise, days):
     """The account of an orderless promise by all counts, ahead of all days."""
-    strands = strands_of(count_table(promise, days), all_counts(promise.goods, days))
-    return CountsAccount(promise.goods, days, list(strands.values()), Bottoms(list(strands)), 1)
+    table = count_table(promise, days)
+    strands = strands_of(table, all_counts(promise.goods, days))
+    return CountsAccount(promise.goods, days, list(strands.values()), Bottoms(list(strands), table.bases()), [])

@@ -3,7 +3,8 @@
 Nothing is checked here. A table has the abouts of the worths, by which most are
 told apart. Its pieces(place) are pairs (top, bottom), which need not be in their
 one form, whose sum is the worth. Its terms(place) are such pairs, too, but over
-few bottoms in the whole table, however great, so that many of them are soon added.
+few bottoms in the whole table, however great, so that many of them are soon added;
+all primes of these bottoms are in its bases().
 """
 
 from hindprice.abouts import about, about_product, about_sum, is_surely_lower
@@ -14,13 +15,14 @@ from hindprice.words import all_counts
 
 
 class ProductTable:
-    """At counts the product, over all goods, of what the row of a good has for its count."""
+    """At counts the product, over all goods, of what the row of a good has for its count, over a base so many times."""
 
-    def __init__(self, rows, bottom, places):
+    def __init__(self, rows, base, many, places):
         self.rows = rows
-        self.bottom = bottom
+        self.base = base
+        self.bottom = integer_power(base, many)
         self.places = places
-        inverse = about(1, bottom)
+        inverse = about(1, self.bottom)
         near = [[about(top, 1) for top in row] for row in rows]
         self.abouts = []
         for counts in places:
@@ -39,6 +41,10 @@ class ProductTable:
     def terms(self, place):
         """The worth at a place as a sum over few bottoms."""
         return self.pieces(place)
+
+    def bases(self):
+        """Integers that have all primes of the bottoms of terms."""
+        return [self.base]
 
 
 class SpreadTable:
@@ -62,6 +68,10 @@ class SpreadTable:
             self.known[at] = self.part.terms(at)
         return self.known[at]
 
+    def bases(self):
+        """Integers that have all primes of the bottoms of terms."""
+        return self.part.bases()
+
 
 class TimesTable:
     """So many times a table."""
@@ -81,6 +91,10 @@ class TimesTable:
         """The worth at a place as a sum over few bottoms."""
         return [(top * self.top, bottom * self.bottom) for top, bottom in self.part.terms(place)]
 
+    def bases(self):
+        """Integers that have all primes of the bottoms of terms."""
+        return [self.bottom, *self.part.bases()]
+
 
 class SumTable:
     """Some tables together."""
@@ -99,6 +113,10 @@ class SumTable:
         """The worth at a place as a sum over few bottoms."""
         return [term for part in self.parts for term in part.terms(place)]
 
+    def bases(self):
+        """Integers that have all primes of the bottoms of terms."""
+        return [base for part in self.parts for base in part.bases()]
+
 
 class PickedTable:
     """At each place the worth of one of some tables."""
@@ -115,6 +133,10 @@ class PickedTable:
     def terms(self, place):
         """The worth at a place as a sum over few bottoms."""
         return self.parts[self.picks[place]].terms(place)
+
+    def bases(self):
+        """Integers that have all primes of the bottoms of terms."""
+        return [base for part in self.parts for base in part.bases()]
 
 
 class KnownTerms:
@@ -170,6 +192,10 @@ class ThenTable:
             ahead = self.firsts.one(place // many)
             behind = self.lasts.one(place % many)
         return [(top * more, bottom * low) for top, bottom in ahead for more, low in behind]
+
+    def bases(self):
+        """Integers that have all primes of the bottoms of terms."""
+        return [*self.first.bases(), *self.last.bases()]
 
 
 def is_lower_at(one, place, other, spot):
@@ -269,14 +295,15 @@ def powers_of(top, days):
 def mix_table(shares, days, places):
     """The table of a Mix at all counts."""
     tops, bottom = levelled(shares)
-    return ProductTable([powers_of(top, days) for top in tops], integer_power(bottom, days), places)
+    return ProductTable([powers_of(top, days) for top in tops], bottom, days, places)
 
 
 def best_table(begun, days, places):
     """The table of a BestMix with these counts at first, at all counts."""
     rows = [[integer_power(count, count) for count in range(first, first + days + 1)] for first in begun]
     many = sum(begun) + days
-    return ProductTable(rows, integer_power(many, many), places)
+    # Without any counts it is 1 over 1.
+    return ProductTable(rows, max(1, many), many, places)
 
 
 def count_table_at(promise, days, places):

@@ -69,6 +69,8 @@ class WalkTable:
         pays, under = rows_of_shares(machine)
         self.firsts = first_halves(promise, pays, tops, days // 2)
         self.lasts = last_halves(machine, pays, days - days // 2)
+        self.low = low
+        self.under = under
         self.bottom = low * integer_power(under, days)
         self.picks = []
         self.abouts = []
@@ -130,3 +132,7 @@ class WalkTable:
     def terms(self, place):
         """The worth at a word as a sum over few bottoms."""
         return [(self._top(place), self.bottom)]
+
+    def bases(self):
+        """Integers that have all primes of the bottom."""
+        return [self.low, self.under]

@@ -12,6 +12,7 @@ from hindprice.check_sellers import shows_seller
 from hindprice.codes import code_of, codes_of
 from hindprice.corner_prices import corner_price
 from hindprice.corners import Corner
+from hindprice.exact import over_by
 from hindprice.machines import Machine
 from hindprice.prices import price, prices, rest, richest, shared, worths_of
 from hindprice.promises import BestMix, BestWalk, Greatest, Hold, Mix, Sum, Then, Times
@@ -247,6 +248,30 @@ class AllButTheSame(Case):
         for one, other in self.orders():
             promise = Sum([Times(one, Hold(2, 0)), Times(other, Hold(2, 1))])
             self.same(richest(promise, 1), ((0,), one) if fraction(one) >= fraction(other) else ((1,), other))
+
+
+class OneForm(Case):
+    def check(self, top, bottom, bases):
+        self.same(over_by(top, bottom, bases), told(Fraction(top, bottom)))
+
+    def test_by_bases(self):
+        chance = random.Random(249)
+        for _ in range(400):
+            bases = [chance.choice((1, 2, 6, 12, 35, 10 ** 9 + 7, chance.randint(2, 10 ** 12))) for _ in range(chance.randint(0, 4))]
+            bottom = math.prod(base ** chance.randint(0, 60) for base in bases)
+            top = chance.randint(0, 10 ** 30) * math.prod(chance.choice((1, 2, 3, 5, 7, *bases)) ** chance.choice((0, 1, 2, 80)) for _ in range(3))
+            self.check(top, bottom, bases)
+            self.check(top * bottom, bottom, bases)
+            self.check(top + bottom, bottom, bases)
+
+    def test_edges(self):
+        for bases in ([], [1], [2], [6, 1]):
+            self.check(0, 6 ** 400 if 6 in bases else 1, bases)
+            self.check(7, 1, bases)
+        self.check(2 ** 4000, 2 ** 3999, [2])
+        self.check(2 ** 3999, 2 ** 4000, [2])
+        self.check(3 * 2 ** 5000, 6 ** 1000, [6])
+        self.check(5, 6 ** 1000, [6])
 
 
 class Abouts(Case):
