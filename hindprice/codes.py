@@ -36,7 +36,7 @@ def code_of(promise, days, word):
     need_few_words(promise.goods, days)
     measure = Measure(promise, days)
     place = place_of(word, promise.goods)
-    if not measure.has(place):
+    if not measure.has_worth(place):
         raise Misfit("word")
     return measure.code(place)
 
@@ -44,7 +44,7 @@ def code_of(promise, days, word):
 def all_codes(measure, promise, days):
     """The pairs of word and code of all words that have one, ascending."""
     return [(word, measure.code(place)) for place, word in enumerate(words_of(promise.goods, days))
-            if measure.has(place)]
+            if measure.has_worth(place)]
 
 
 def codes_of(promise, days):

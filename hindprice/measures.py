@@ -2,7 +2,7 @@
 
 Nothing is checked here. All is measured in units so small that mostly it is told
 by how many of them there are at least, and at most; where it is not, it is
-reckoned out. None of the worths' sum may be left: the price is above 0.
+reckoned out.
 """
 
 from hindprice.strands import words_account_of
@@ -72,7 +72,7 @@ class Measure:
         """Whether all worths are 0."""
         return not any([near[0] > 0 for near in self.table.abouts])
 
-    def has(self, place):
+    def has_worth(self, place):
         """Whether the worth at a place is above 0."""
         return self.table.abouts[place][0] > 0
 
@@ -94,7 +94,7 @@ class Measure:
         self._go_to(place)
         wholes = [sum(list(strand.values())) for strand in self.strands]
         parts = [strand.get(place, 0) for strand in self.strands]
-        return (self.bottoms.top(wholes), self.bottoms.top(self.ahead), self.bottoms.top(parts))
+        return (self.bottoms.sum_of_tops(wholes), self.bottoms.sum_of_tops(self.ahead), self.bottoms.sum_of_tops(parts))
 
     def code(self, place):
         """The code of the word at a place that has one."""

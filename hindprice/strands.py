@@ -31,7 +31,7 @@ class Bottoms:
             row = [*[row[2 * at] * times for at, (times, _) in enumerate(level)], *row[2 * len(level):]]
         self.common = row[0]
 
-    def top(self, tops):
+    def sum_of_tops(self, tops):
         """The sum of integers, one over each bottom, over the one for all."""
         row = [0, *tops]
         for level in self.levels:
@@ -78,14 +78,14 @@ class WordsAccount:
     def whole(self):
         """The purse."""
         if self.purse is None:
-            top = self.bottoms.top([sum(list(strand.values())) for strand in self.strands])
+            top = self.bottoms.sum_of_tops([sum(list(strand.values())) for strand in self.strands])
             self.purse = self.bottoms.number(top, self.days)
         return self.purse
 
     def lying(self):
         """What lies on each good for the next day."""
         size = self.many // self.goods
-        tops = [self.bottoms.top([begun_with(strand, size, good) for strand in self.strands])
+        tops = [self.bottoms.sum_of_tops([begun_with(strand, size, good) for strand in self.strands])
                 for good in range(self.goods)]
         self.purse = self.bottoms.number(sum(tops), self.days)
         return [self.bottoms.number(top, self.days) for top in tops]
@@ -125,7 +125,7 @@ class CountsAccount:
 
     def _top(self, many):
         """The sum of the worths, each so many times as is told for its counts, over the bottom for all."""
-        return self.bottoms.top([sum([top * many[counts] for counts, top in strand.items()])
+        return self.bottoms.sum_of_tops([sum([top * many[counts] for counts, top in strand.items()])
                                  for strand in self.strands])
 
     def whole(self):

@@ -154,7 +154,7 @@ class KnownTerms:
             self.known[place] = self.table.terms(place)
         return self.known[place]
 
-    def one(self, place):
+    def as_one(self, place):
         """The terms at a place put together to one."""
         if place not in self.together:
             terms = self.several(place)
@@ -189,8 +189,8 @@ class ThenTable:
         ahead = self.firsts.several(place // many)
         behind = self.lasts.several(place % many)
         if len(ahead) > 1 and len(behind) > 1:
-            ahead = self.firsts.one(place // many)
-            behind = self.lasts.one(place % many)
+            ahead = self.firsts.as_one(place // many)
+            behind = self.lasts.as_one(place % many)
         return [(top * more, bottom * low) for top, bottom in ahead for more, low in behind]
 
     def bases(self):

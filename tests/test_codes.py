@@ -2,12 +2,14 @@
 
 import random
 import unittest
+import unittest.mock
 from fractions import Fraction
 
 from hindprice.codes import code_of, codes_of, read_codes, word_of
 from hindprice.errors import BadCode, BadNumber, BadPromise, BadWord, Misfit, TooMany
 from hindprice.lags import Lag, lag, shows_lag
 from hindprice.machines import Machine
+from hindprice.measures import Measure
 from hindprice.papers import Denial, Paper
 from hindprice.prices import price
 from hindprice.promises import BestMix, BestWalk, Greatest, Hold, Mix, Sum, Then, Times
@@ -127,6 +129,67 @@ class Codes(Case):
         for word, sign in codes_of(both, 6):
             for part in both.parts:
                 self.assertLess(Fraction(2) ** (len(sign) - 2) * oracle.worth_at(part, word), whole)
+
+
+class Measured(Case):
+    """Where little is measured, most is to be reckoned out: nothing is told wrong."""
+
+    def setUp(self):
+        self.enterContext(unittest.mock.patch("hindprice.measures.MORE_BITS", 4))
+
+    def great(self, chance):
+        """A promise whose worths are measured by no binary figures."""
+        kinds = [Mix([(1, 3), (2, 3)]), Times((5, 7), EITHER), BestMix(2, (1, 0)), Mix([(3, 7), (4, 7)]), Times((1, 3), Mix(HALF)), WALK]
+        return Sum([Times((chance.randint(1, 9), 11), chance.choice(kinds)) for _ in range(chance.randint(1, 6))])
+
+    def test_codes(self):
+        chance = random.Random(215)
+        for _ in range(120):
+            promise, days = self.great(chance), chance.randint(0, 5)
+            self.same(codes_of(promise, days), codes(promise, days))
+            words = list(dict(codes(promise, days)))
+            for word in chance.sample(words, min(3, len(words))):
+                self.same(code_of(promise, days, word), dict(codes(promise, days))[word])
+
+    def test_lags(self):
+        chance = random.Random(216)
+        for _ in range(80):
+            promise, days = self.great(chance), chance.randint(0, 4)
+            lengths = some_lengths(chance, 2 ** days)
+            wanted = lagging(promise, days, lengths)
+            self.same(lag(promise, days, lengths).course, wanted[0])
+            for word in oracle.words(2, days):
+                self.assertIs(shows_lag(promise, days, lengths, Lag(word)), word in wanted)
+
+    def test_all_but_at_the_price(self):
+        for bits in (4, 64):
+            with unittest.mock.patch("hindprice.measures.MORE_BITS", bits):
+                for many in [*range(2, 90), 10 ** 20, 10 ** 39]:
+                    less = told(Fraction(many, many + 1))
+                    for promise in (Sum([Times(less, ONE), TWO]), Times((1, 3), Sum([Times(less, ONE), TWO]))):
+                        self.assertIs(shows_lag(promise, 1, [1, 1], Lag((0,))), False)
+                        self.assertIs(shows_lag(promise, 1, [1, 1], Lag((1,))), True)
+                        self.assertIs(shows_lag(promise, 1, [2, 1], Lag((0,))), True)
+                        self.same(lag(promise, 1, [1, 1]).course, (1,))
+                        self.same(codes_of(promise, 1), codes(promise, 1))
+
+    def test_units_at_least_and_at_most(self):
+        chance = random.Random(217)
+        for bits in (4, 8, 64):
+            with unittest.mock.patch("hindprice.measures.MORE_BITS", bits):
+                for _ in range(30):
+                    promise, days = self.great(chance), chance.randint(0, 4)
+                    measure = Measure(promise, days)
+                    unit = Fraction(1, 2 ** measure.bits)
+                    ahead = 0
+                    for place, word in enumerate(oracle.words(2, days)):
+                        worth = oracle.worth_at(promise, word) / unit
+                        least, slack = measure.leasts[place], measure.slacks[place]
+                        self.assertTrue(least <= worth < least + slack or worth == least and slack == 0)
+                        self.assertTrue(measure.starts[place] <= ahead <= measure.starts[place] + measure.behinds[place])
+                        self.assertTrue(worth == 0 or worth >= 2 ** bits)
+                        ahead += worth
+                    self.assertTrue(measure.starts[-1] <= ahead <= measure.starts[-1] + measure.behinds[-1])
 
 
 class Reading(Case):

@@ -301,6 +301,17 @@ class Refused(Case):
         for value in (0, ["price", "wise", "2"], ("drop wise",)):
             self.raises(BadText(0), some_desk().tell, value)
 
+    def test_levels_and_promises(self):
+        for levels in range(1, 9):
+            line = "promise deep " + "times 1 " * (levels - 1) + "hold 1 0"
+            if levels <= 6:
+                self.same(Desk().tell(line), "1")
+            else:
+                self.raises(BadText(2 + 2 * 6), Desk().tell, line)
+        many = "promise wide sum 6" + " sum 6 hold 1 0 hold 1 0 hold 1 0 hold 1 0 hold 1 0 hold 1 0" * 5 + " sum {}" + " hold 1 0" * 4
+        self.raises(BadText(len(many.split()) - 3), Desk().tell, many.format(4))
+        self.same(Desk().tell(many.format(3)[:-len(" hold 1 0")]), "1")
+
     def test_what_others_raise(self):
         for line, error in (
                 ("open new wise 1000", None), ("open new three 100", TooMany("counts", 5000)), ("price three 99", TooMany("counts", 5000)),
