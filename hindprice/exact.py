@@ -2,6 +2,9 @@
 
 from math import gcd, lcm
 
+# From so many bits on all that two integers have in common is found sooner at once.
+LONG_PART = 2000
+
 
 def top_of(number):
     """What stands above the line."""
@@ -27,14 +30,14 @@ def over(top, bottom):
     return (top // shared, bottom // shared)
 
 
-def common_part(top, bottom, shared):
-    """The greatest integer that divides both, and that has no prime that shared has not; shared divides top."""
-    part = shared
-    more = gcd(top % (part * part), part * part)
-    while more != part:
+def part_with(top, shared):
+    """What divides an integer and has no prime that shared has not, shared dividing it; not all if it is long."""
+    part = 1
+    more = shared
+    while more != part and part.bit_length() < LONG_PART:
         part = more
         more = gcd(top % (part * part), part * part)
-    return gcd(bottom % part, part)
+    return more
 
 
 def over_by(top, bottom, bases):
@@ -45,7 +48,10 @@ def over_by(top, bottom, bases):
     for base in bases:
         shared = gcd(top % base, base)
         if shared > 1:
-            common = common_part(top, bottom, shared)
+            part = part_with(top, shared)
+            if part.bit_length() >= LONG_PART:
+                return over(top, bottom)
+            common = gcd(bottom % part, part)
             top = top // common
             bottom = bottom // common
     if bottom == 1:

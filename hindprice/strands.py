@@ -22,6 +22,7 @@ class Bottoms:
     """
 
     def __init__(self, bottoms, bases):
+        self.bottoms = bottoms
         self.bases = sorted(set(bases))
         self.levels = []
         row = [1, *bottoms]
@@ -30,6 +31,10 @@ class Bottoms:
             self.levels.append(level)
             row = [*[row[2 * at] * times for at, (times, _) in enumerate(level)], *row[2 * len(level):]]
         self.common = row[0]
+
+    def of_some(self, places):
+        """The bottoms at some places alone."""
+        return Bottoms([self.bottoms[place] for place in places], self.bases)
 
     def sum_of_tops(self, tops):
         """The sum of integers, one over each bottom, over the one for all."""
@@ -51,6 +56,14 @@ def times_to_common(one, other):
     """How many times two bottoms are to be taken for one that both have in common."""
     shared = gcd(one, other)
     return (other // shared, one // shared)
+
+
+def lasting(strands, bottoms):
+    """The strands in which anything is left, and their bottoms: what is over the others would be cut out again."""
+    left = [at for at, strand in enumerate(strands) if len(strand) > 0]
+    if len(left) == len(strands):
+        return (strands, bottoms)
+    return ([strands[at] for at in left], bottoms.of_some(left))
 
 
 def strands_of(table, places):
@@ -94,8 +107,8 @@ class WordsAccount:
         """The account behind one more day."""
         numbers, under = levelled(day)
         size = self.many // self.goods
-        strands = [words_behind(strand, size, numbers) for strand in self.strands]
-        return WordsAccount(self.goods, size, strands, self.bottoms, [*self.days, under])
+        strands, bottoms = lasting([words_behind(strand, size, numbers) for strand in self.strands], self.bottoms)
+        return WordsAccount(self.goods, size, strands, bottoms, [*self.days, under])
 
 
 def begun_with(strand, size, good):
@@ -107,8 +120,10 @@ def words_behind(strand, size, numbers):
     """A strand behind a day with these numbers, over the day's bottom."""
     made = {}
     for place, top in strand.items():
-        at = place % size
-        made[at] = made.get(at, 0) + top * numbers[place // size]
+        number = numbers[place // size]
+        if number != 0:
+            at = place % size
+            made[at] = made.get(at, 0) + top * number
     return made
 
 
@@ -147,8 +162,8 @@ class CountsAccount:
     def behind(self, day):
         """The account behind one more day."""
         numbers, under = levelled(day)
-        strands = [counts_behind(strand, numbers) for strand in self.strands]
-        return CountsAccount(self.goods, self.left - 1, strands, self.bottoms, [*self.days, under])
+        strands, bottoms = lasting([counts_behind(strand, numbers) for strand in self.strands], self.bottoms)
+        return CountsAccount(self.goods, self.left - 1, strands, bottoms, [*self.days, under])
 
 
 def all_ways(goods, days):
@@ -161,7 +176,7 @@ def counts_behind(strand, numbers):
     made = {}
     for counts, top in strand.items():
         for good, number in enumerate(numbers):
-            if counts[good] > 0:
+            if counts[good] > 0 and number != 0:
                 fewer = (*counts[:good], counts[good] - 1, *counts[good + 1:])
                 made[fewer] = made.get(fewer, 0) + top * number
     return made

@@ -4,6 +4,7 @@ import math
 import random
 import time
 import unittest
+import unittest.mock
 from fractions import Fraction
 
 from hindprice.abouts import about, about_product, about_sum, is_surely_lower
@@ -19,6 +20,7 @@ from hindprice.promises import BestMix, BestWalk, Greatest, Hold, Mix, Sum, Then
 from hindprice.robbers import Safe, judged_seller
 from hindprice.sellers import Seller
 from hindprice.spares import Thrift
+from hindprice.walk_tables import WalkTable
 from hindprice.walks import best_walk
 from hindprice.worths import worth_at
 from tests import oracle
@@ -248,6 +250,57 @@ class AllButTheSame(Case):
         for one, other in self.orders():
             promise = Sum([Times(one, Hold(2, 0)), Times(other, Hold(2, 1))])
             self.same(richest(promise, 1), ((0,), one) if fraction(one) >= fraction(other) else ((1,), other))
+
+
+class LittleKept(Case):
+    """With few first bits kept, most is told by the whole numbers: all the same."""
+
+    def setUp(self):
+        for name, kept in (("abouts.KEPT", 96), ("abouts.SURE", 40), ("walk_tables.KEPT", 96)):
+            self.enterContext(unittest.mock.patch(f"hindprice.{name}", kept))
+
+    def number(self, chance):
+        """Of 1 to 130 bits, or off another one by next to nothing."""
+        near = Fraction(3, 7) * (1 + Fraction(chance.choice((-1, 0, 1)), 2 ** chance.randint(30, 110)))
+        return chance.choice((near, near, Fraction(chance.getrandbits(chance.choice((1, 40, 90, 96, 97, 130))), 2 ** 130)))
+
+    def walk(self, chance):
+        many = chance.randint(1, 5)
+        arrows = {(at, chance.randrange(many)) for at in range(many)} | {(chance.randrange(many), at) for at in range(many)}
+        shares = [self.number(chance) for _ in range(many)]
+        machine = Machine([(told(share), told(1 - share)) for share in shares], sorted(arrows))
+        return BestWalk(machine, [told(self.number(chance)) for _ in range(many)])
+
+    def part(self, chance):
+        shares = self.number(chance)
+        return chance.choice((self.walk(chance), self.walk(chance), Mix((told(shares), told(1 - shares))), Hold(2, 0),
+                              Times(told(self.number(chance)), BestMix(2, (0, 1))), Then(1, self.walk(chance), self.walk(chance))))
+
+    def test_walks(self):
+        chance = random.Random(251)
+        for _ in range(150):
+            promise, days = self.walk(chance), chance.randint(0, 5)
+            self.same(worths_of(promise, days), tuple(told(oracle.worth_at(promise, word)) for word in oracle.words(2, days)))
+            table = WalkTable(promise, days)
+            for place, word in enumerate(oracle.words(2, days)):
+                exact = oracle.worth_at(promise, word)
+                low, up = table.abouts[place]
+                self.assertLessEqual(abs(Fraction(low) * Fraction(2) ** up - exact) * 2 ** 50, exact)
+                for sums in (table.terms(place), table.pieces(place)):
+                    self.assertEqual(sum(Fraction(top, bottom) for top, bottom in sums), exact)
+
+    def test_promises(self):
+        chance = random.Random(252)
+        for _ in range(120):
+            parts = [Sum([self.part(chance) for _ in range(chance.randint(1, 2))]) for _ in range(chance.randint(2, 3))]
+            promise, days = Greatest(parts), chance.randint(0, 4)
+            worths = [oracle.worth_at(promise, word) for word in oracle.words(2, days)]
+            self.same(worths_of(promise, days), tuple(map(told, worths)))
+            self.same(price(promise, days), told(sum(worths)))
+            place = worths.index(max(worths))
+            self.same(richest(promise, days), (oracle.words(2, days)[place], told(worths[place])))
+            least = [min(worth, oracle.worth_at(parts[0], word)) for worth, word in zip(worths, oracle.words(2, days))]
+            self.same(shared(parts[0], promise, days), told(sum(least)))
 
 
 class OneForm(Case):
