@@ -29,8 +29,8 @@ from tests.support import Case, fraction, told
 GREAT = 10 ** 40 - 1
 ALL = [(begin, end) for begin in range(6) for end in range(6)]
 FEW = [(at, (at + 1) % 6) for at in range(6)] + [(0, 3), (2, 2), (5, 1)]
-# Seconds: far more than is needed here, far less than was needed before.
-SHORT = 15
+# Seconds of computing: far more than is needed here, also where what is found is held against other sums.
+SHORT = 40
 
 
 def mix(at):
@@ -94,7 +94,9 @@ class ManyWalks(Time):
 
     def test_price_for_12_days(self):
         promise = many_walks(6, 5)
+        begun = time.process_time()
         here = price(promise, 12)
+        self.assertLess(time.process_time() - begun, SHORT / 3)
         # Each walk is worth at a word what the greatest shares make, so few worths are to be told apart.
         wanted = sum(max(sum(self.greedy(part, word) for part in some.parts) for some in promise.parts) * ways
                      for word, ways in (((0,) * ups + (1,) * (12 - ups), math.comb(12, ups)) for ups in range(13)))
