@@ -71,23 +71,61 @@ def is_less(one, other):
     return top_of(one) * bottom_of(other) < top_of(other) * bottom_of(one)
 
 
-def added(numbers):
-    """The sum of a list of numbers, or of pairs that need not be in their one form: a top and a bottom."""
-    # Tops are added by their bottoms first: long sums mostly have few bottoms.
+def by_bottoms(pairs):
+    """The same sum with each bottom once: long sums mostly have few bottoms."""
     tops = {}
-    for number in numbers:
-        bottom = bottom_of(number)
-        tops[bottom] = tops.get(bottom, 0) + top_of(number)
-    common = 1
-    for bottom in tops:
-        common = lcm(common, bottom)
-    return (sum([tops[bottom] * (common // bottom) for bottom in tops]), common)
+    for pair in pairs:
+        bottom = bottom_of(pair)
+        tops[bottom] = tops.get(bottom, 0) + top_of(pair)
+    return [(tops[bottom], bottom) for bottom in tops]
+
+
+def two_by_two(pairs, tell):
+    """What is left of some pairs, at least one, if each two are put together to one, again and again."""
+    while len(pairs) > 1:
+        both = [tell(pairs[at], pairs[at + 1]) for at in range(0, len(pairs) - 1, 2)]
+        pairs = [*both, *pairs[2 * len(both):]]
+    return pairs[0]
+
+
+def cross_sum(one, other):
+    """The sum of two pairs, in any form."""
+    top, bottom = one
+    more, low = other
+    return (top * low + more * bottom, bottom * low)
+
+
+def added(pairs):
+    """The sum of pairs that need not be in their one form, nor is it: to find it would take longer than all else."""
+    return two_by_two([(0, 1), *by_bottoms(pairs)], cross_sum)
+
+
+def cut_sum(one, other):
+    """The sum of two pairs of which neither has anything in common; neither has it."""
+    top, bottom = one
+    more, low = other
+    shared = gcd(bottom, low)
+    if shared == 1:
+        return (top * low + more * bottom, bottom * low)
+    whole = top * (low // shared) + more * (bottom // shared)
+    # Nothing else of the bottoms can be in it, too.
+    common = gcd(whole, shared)
+    return (whole // common, (bottom // shared) * (low // common))
+
+
+def cut_pair(pair):
+    """The pair without what both have in common."""
+    top, bottom = pair
+    shared = gcd(top, bottom)
+    return (top // shared, bottom // shared)
 
 
 def sum_of(numbers):
-    """The sum of a list of numbers."""
-    top, bottom = added(numbers)
-    return over(top, bottom)
+    """The sum of a list of numbers, or of pairs that need not be in their one form."""
+    top, bottom = two_by_two([(0, 1), *[cut_pair(pair) for pair in by_bottoms(numbers)]], cut_sum)
+    if bottom == 1:
+        return top
+    return (top, bottom)
 
 
 def product_of(numbers):

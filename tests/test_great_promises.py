@@ -13,7 +13,7 @@ from hindprice.check_sellers import shows_seller
 from hindprice.codes import code_of, codes_of
 from hindprice.corner_prices import corner_price
 from hindprice.corners import Corner
-from hindprice.exact import over_by
+from hindprice.exact import added, over_by, sum_of
 from hindprice.machines import Machine
 from hindprice.prices import price, prices, rest, richest, shared, worths_of
 from hindprice.promises import BestMix, BestWalk, Greatest, Hold, Mix, Sum, Then, Times
@@ -318,6 +318,20 @@ class OneForm(Case):
             self.check(top, bottom, bases)
             self.check(top * bottom, bottom, bases)
             self.check(top + bottom, bottom, bases)
+
+    def test_sums(self):
+        chance = random.Random(250)
+        for _ in range(600):
+            numbers = [Fraction(chance.randint(-20, 20), chance.choice((1, 2, 3, 4, 6, 12, 36, 35, 2 ** 90, 10 ** 40)))
+                       for _ in range(chance.randint(0, 12))]
+            if chance.random() < 0.3:
+                numbers += [-number for number in numbers]
+            self.same(sum_of([told(number) for number in numbers]), told(sum(numbers)))
+            # In other forms, too.
+            pairs = [(number.numerator * times, number.denominator * times) for number in numbers for times in (chance.randint(1, 9),)]
+            self.same(sum_of(pairs), told(sum(numbers)))
+            self.assertEqual(Fraction(*added(pairs)), sum(numbers))
+        self.same((sum_of([]), added([])), (0, (0, 1)))
 
     def test_edges(self):
         for bases in ([], [1], [2], [6, 1]):
