@@ -72,12 +72,11 @@ def is_less(one, other):
 
 
 def by_bottoms(pairs):
-    """The same sum with each bottom once: long sums mostly have few bottoms."""
+    """The tops of some pairs by their bottoms: long sums mostly have few bottoms."""
     tops = {}
     for pair in pairs:
-        bottom = bottom_of(pair)
-        tops[bottom] = tops.get(bottom, 0) + top_of(pair)
-    return [(tops[bottom], bottom) for bottom in tops]
+        tops.setdefault(bottom_of(pair), []).append(top_of(pair))
+    return tops
 
 
 def two_by_two(pairs, tell):
@@ -97,7 +96,8 @@ def cross_sum(one, other):
 
 def added(pairs):
     """The sum of pairs that need not be in their one form, nor is it: to find it would take longer than all else."""
-    return two_by_two([(0, 1), *by_bottoms(pairs)], cross_sum)
+    tops = by_bottoms(pairs)
+    return two_by_two([(0, 1), *[(sum(tops[bottom]), bottom) for bottom in tops]], cross_sum)
 
 
 def cut_sum(one, other):
@@ -113,16 +113,19 @@ def cut_sum(one, other):
     return (whole // common, (bottom // shared) * (low // common))
 
 
-def cut_pair(pair):
-    """The pair without what both have in common."""
-    top, bottom = pair
+def cut_pair(tops, bottom):
+    """The sum of some tops over a bottom, without what both have in common; one alone has nothing."""
+    top = sum(tops)
+    if len(tops) == 1:
+        return (top, bottom)
     shared = gcd(top, bottom)
     return (top // shared, bottom // shared)
 
 
 def sum_of(numbers):
-    """The sum of a list of numbers, or of pairs that need not be in their one form."""
-    top, bottom = two_by_two([(0, 1), *[cut_pair(pair) for pair in by_bottoms(numbers)]], cut_sum)
+    """The sum of a list of numbers."""
+    tops = by_bottoms(numbers)
+    top, bottom = two_by_two([(0, 1), *[cut_pair(tops[bottom], bottom) for bottom in tops]], cut_sum)
     if bottom == 1:
         return top
     return (top, bottom)

@@ -3,7 +3,7 @@
 from hindprice.accounts import need_few, price_of
 from hindprice.afters import left_behind_word
 from hindprice.errors import BadPromise, Misfit
-from hindprice.exact import sum_of
+from hindprice.exact import over, sum_of
 from hindprice.needs import need_days, need_word
 from hindprice.promises import need_promise
 from hindprice.strands import words_purse
@@ -49,7 +49,7 @@ def is_orderless(promise):
 
 def worth_in(table, place):
     """The worth that a table has at a place."""
-    return sum_of(table.pieces(place))
+    return sum_of([over(top, bottom) for top, bottom in table.pieces(place)])
 
 
 def worths_of(promise, days):

@@ -23,7 +23,7 @@ class Bottoms:
 
     def __init__(self, bottoms, bases):
         self.bottoms = bottoms
-        self.bases = sorted(set(bases))
+        self.bases = bases
         self.levels = []
         row = [1, *bottoms]
         while len(row) > 1:
@@ -56,6 +56,31 @@ def times_to_common(one, other):
     """How many times two bottoms are to be taken for one that both have in common."""
     shared = gcd(one, other)
     return (other // shared, one // shared)
+
+
+def without_primes(number, other):
+    """What is left of an integer if each prime of another one is cut out of it."""
+    shared = gcd(number, other)
+    while shared > 1:
+        number = number // shared
+        shared = gcd(number, shared)
+    return number
+
+
+def unlike_bases(bases):
+    """Integers that have the same primes, each of them once: all of these are soon gone through."""
+    found = []
+    for base in sorted(set(bases)):
+        for other in found:
+            base = without_primes(base, other)
+        if base > 1:
+            found.append(base)
+    return found
+
+
+def bottoms_of(strands, table):
+    """The bottoms of the strands of a table."""
+    return Bottoms(list(strands), unlike_bases(table.bases()))
 
 
 def lasting(strands, bottoms):
@@ -186,7 +211,7 @@ def words_account_of(table, goods):
     """The account of a table at all words of so many goods, ahead of all days."""
     many = len(table.abouts)
     strands = strands_of(table, list(range(many)))
-    return WordsAccount(goods, many, list(strands.values()), Bottoms(list(strands), table.bases()), [])
+    return WordsAccount(goods, many, list(strands.values()), bottoms_of(strands, table), [])
 
 
 def words_purse(table):
@@ -203,4 +228,4 @@ def counts_account(promise, days):
     """The account of an orderless promise by all counts, ahead of all days."""
     table = count_table(promise, days)
     strands = strands_of(table, all_counts(promise.goods, days))
-    return CountsAccount(promise.goods, days, list(strands.values()), Bottoms(list(strands), table.bases()), [])
+    return CountsAccount(promise.goods, days, list(strands.values()), bottoms_of(strands, table), [])

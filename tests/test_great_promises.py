@@ -329,7 +329,6 @@ class OneForm(Case):
             self.same(sum_of([told(number) for number in numbers]), told(sum(numbers)))
             # In other forms, too.
             pairs = [(number.numerator * times, number.denominator * times) for number in numbers for times in (chance.randint(1, 9),)]
-            self.same(sum_of(pairs), told(sum(numbers)))
             self.assertEqual(Fraction(*added(pairs)), sum(numbers))
         self.same((sum_of([]), added([])), (0, (0, 1)))
 
