@@ -63,3 +63,14 @@ def is_surely_lower(one, other):
     common = min(up, above)
     here = low << (up - common)
     return here + (here >> SURE) < more << (above - common)
+
+
+def at_least_times(one, other):
+    """So many times the other number is at least the one, both above 0: an integer, hardly more than is needed."""
+    low, up = one
+    more, above = other
+    most = low + (low >> SURE) + 1
+    least = more - (more >> SURE)
+    if up >= above:
+        return (most << (up - above)) // least + 1
+    return most // (least << (above - up)) + 1

@@ -1,5 +1,6 @@
 """Mixes at a market: which one is best, and which one is better than another one."""
 
+from hindprice.abouts import NOTHING, about, about_product, about_sum, at_least_times
 from hindprice.errors import Misfit
 from hindprice.exact import (
     bottom_of,
@@ -90,7 +91,16 @@ def within_factor(shares, market):
     return greatest_of(all_means(shares, market))
 
 
-def enough_parts(numbers):
+def squares_of(numbers):
+    """The about of the sum of the squares of some numbers."""
+    whole = NOTHING
+    for number in numbers:
+        near = about(abs(top_of(number)), bottom_of(number))
+        whole = about_sum(whole, about_product(near, near))
+    return whole
+
+
+def enough_parts(numbers, mean):
     """So many parts that a mix with one of them laid on a good has more worth.
 
     The numbers are what the days have for the good, divided by what they pay
@@ -100,9 +110,9 @@ def enough_parts(numbers):
     each is at least e a - e a e a; so e may be the sum of all a, divided by
     twice that of their squares.
     """
-    more = [sum_of([number, -1]) for number in numbers]
-    parts = ratio(product_of([2, sum_of([product_of([one, one]) for one in more])]), sum_of(more))
-    return max(2, -(-top_of(parts) // bottom_of(parts)))
+    squares = squares_of([sum_of([number, -1]) for number in numbers])
+    more = product_of([len(numbers), sum_of([mean, -1])])
+    return max(2, at_least_times(about_product((2, 0), squares), about(top_of(more), bottom_of(more))))
 
 
 def judged_mix(shares, market):
@@ -112,7 +122,7 @@ def judged_mix(shares, market):
     good = list(means).index(greatest_of(means))
     if not is_less(1, means[good]):
         return Best()
-    parts = enough_parts(ratios_of(shares, market)[good])
+    parts = enough_parts(ratios_of(shares, market)[good], means[good])
     less = [ratio(product_of([share, parts - 1]), parts) for share in shares]
     less[good] = sum_of([less[good], (1, parts)])
     return Outdone(less)

@@ -131,19 +131,29 @@ def sum_of(numbers):
     return (top, bottom)
 
 
+def cut_product(one, other):
+    """The product of two pairs of which neither has anything in common; nor has it."""
+    top, bottom = one
+    more, low = other
+    shared = gcd(top, low)
+    common = gcd(more, bottom)
+    return ((top // shared) * (more // common), (bottom // common) * (low // shared))
+
+
 def product_of(numbers):
     """The product of a list of numbers, 1 of none."""
-    top = 1
-    bottom = 1
-    for number in numbers:
-        top = top * top_of(number)
-        bottom = bottom * bottom_of(number)
-    return over(top, bottom)
+    pairs = [(top_of(number), bottom_of(number)) for number in numbers]
+    top, bottom = two_by_two([(1, 1), *pairs], cut_product)
+    if bottom == 1:
+        return top
+    return (top, bottom)
 
 
 def ratio(one, other):
     """One number over another one that is not 0."""
-    return over(top_of(one) * bottom_of(other), bottom_of(one) * top_of(other))
+    if top_of(other) < 0:
+        return ratio(opposite(one), opposite(other))
+    return product_of([one, (bottom_of(other), top_of(other))])
 
 
 def greatest_of(numbers):
@@ -183,4 +193,9 @@ def integer_power(base, many):
 
 def power_of(number, many):
     """A number, so many times as a factor; no time makes 1."""
-    return over(integer_power(top_of(number), many), integer_power(bottom_of(number), many))
+    if isinstance(number, int):
+        return integer_power(number, many)
+    if many == 0:
+        return 1
+    # What has nothing in common has nothing as powers, either.
+    return (integer_power(number[0], many), integer_power(number[1], many))

@@ -141,6 +141,20 @@ class Judged(Case):
                 self.assertIs(shows_mix(shares, market, Outdone(bettered(shares, market))),
                               bettered(shares, market) != tuple(shares))
 
+    def test_what_was_returned(self):
+        # A bettered mix, whatever its digits, is bettered and judged again.
+        chance = random.Random(178)
+        market = [[great(chance), great(chance)] for _ in range(7)]
+        shares = ((1, 3), (2, 3))
+        for _ in range(2):
+            better = bettered(shares, market)
+            self.assertIs(shows_mix(shares, market, Outdone(better)), True)
+            judged = judged_mix(better, market)
+            self.assertIs(shows_mix(better, market, judged), True)
+            self.assertIs(shows_mix(shares, market, judged), True)
+            self.assertLess(fraction(within_factor(better, market)), fraction(within_factor(shares, market)))
+            shares = better
+
     def test_days_that_all_but_balance(self):
         # Ratios with unlike primes below the line whose mean is above 1 by less than any of them tells.
         primes = [10 ** 20 + 39, 10 ** 20 + 129, 10 ** 20 + 151, 10 ** 20 + 193, 10 ** 20 + 207]

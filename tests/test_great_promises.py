@@ -7,19 +7,20 @@ import unittest
 import unittest.mock
 from fractions import Fraction
 
-from hindprice.abouts import about, about_product, about_sum, is_surely_lower
+from hindprice.abouts import about, about_product, about_sum, at_least_times, is_surely_lower
 from hindprice.books import Book
 from hindprice.check_sellers import shows_seller
 from hindprice.codes import code_of, codes_of
 from hindprice.corner_prices import corner_price
 from hindprice.corners import Corner
-from hindprice.exact import added, over_by, sum_of
+from hindprice.exact import added, over_by, product_of, ratio, sum_of
 from hindprice.machines import Machine
 from hindprice.prices import price, prices, rest, richest, shared, worths_of
 from hindprice.promises import BestMix, BestWalk, Greatest, Hold, Mix, Sum, Then, Times
 from hindprice.robbers import Safe, judged_seller
 from hindprice.sellers import Seller
 from hindprice.spares import Thrift
+from hindprice.strands import unlike_bases
 from hindprice.walk_tables import WalkTable
 from hindprice.walks import best_walk
 from hindprice.worths import worth_at
@@ -332,6 +333,25 @@ class OneForm(Case):
             self.assertEqual(Fraction(*added(pairs)), sum(numbers))
         self.same((sum_of([]), added([])), (0, (0, 1)))
 
+    def test_bases(self):
+        chance = random.Random(254)
+        for _ in range(300):
+            bases = [math.prod(chance.choice((1, 2, 3, 5, 7, 11, 13)) ** chance.randint(0, 9) for _ in range(3))
+                     for _ in range(chance.randint(0, 6))]
+            found = unlike_bases(bases)
+            for prime in (2, 3, 5, 7, 11, 13):
+                self.assertEqual(sum(base % prime == 0 for base in found), int(any(base % prime == 0 for base in bases)))
+            self.assertTrue(all(base > 1 for base in found))
+
+    def test_products_and_ratios(self):
+        chance = random.Random(255)
+        for _ in range(500):
+            numbers = [Fraction(chance.randint(-30, 30), chance.choice((1, 2, 3, 4, 6, 35, 36, 2 ** 90))) for _ in range(chance.randint(0, 6))]
+            self.same(product_of([told(number) for number in numbers]), told(math.prod(numbers, start=Fraction(1))))
+            for one, other in zip(numbers, numbers[1:]):
+                if other != 0:
+                    self.same(ratio(told(one), told(other)), told(one / other))
+
     def test_edges(self):
         for bases in ([], [1], [2], [6, 1]):
             self.check(0, 6 ** 400 if 6 in bases else 1, bases)
@@ -376,6 +396,15 @@ class Abouts(Case):
             elif one < other:
                 # Only what is off by next to nothing is not told.
                 self.assertLess((other - one) * 2 ** 255, other)
+
+    def test_at_least_times(self):
+        chance = random.Random(253)
+        for _ in range(1000):
+            one, other = [self.some_number(chance) + Fraction(1, 10 ** 50) for _ in range(2)]
+            times = at_least_times(self.near(one), self.near(other))
+            self.assertGreaterEqual(times * other, one)
+            # Nor are there many more.
+            self.assertLessEqual((times - 2) * other * (2 ** 200 - 1), one * 2 ** 200)
 
     def test_zeros(self):
         zero, one = about(0, 7), about(1, 10 ** 40)
