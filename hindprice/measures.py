@@ -40,7 +40,7 @@ class Measure:
         self.table = word_table(promise, days)
         self.bottoms = None
         self.strands = []
-        self.whole = 0
+        self.top_of_all = 0
         self.reached = 0
         self.ahead = []
         self.bits = self._bits_of_a_unit()
@@ -83,7 +83,7 @@ class Measure:
             account = words_account_of(self.table, 1)
             self.bottoms = account.bottoms
             self.strands = account.strands
-            self.whole = self.bottoms.sum_of_tops([sum(list(strand.values())) for strand in self.strands])
+            self.top_of_all = self.bottoms.sum_of_tops([sum(list(strand.values())) for strand in self.strands])
         if self.reached == 0 or place < self.reached:
             self.reached = 0
             self.ahead = [0] * len(self.strands)
@@ -95,7 +95,7 @@ class Measure:
         """All worths together, those ahead of a place, and that at the place, over one bottom."""
         self._go_to(place)
         parts = [strand.get(place, 0) for strand in self.strands]
-        return (self.whole, self.bottoms.sum_of_tops(self.ahead), self.bottoms.sum_of_tops(parts))
+        return (self.top_of_all, self.bottoms.sum_of_tops(self.ahead), self.bottoms.sum_of_tops(parts))
 
     def code(self, place):
         """The code of the word at a place that has one."""

@@ -23,7 +23,7 @@ class Bottoms:
 
     def __init__(self, bottoms, bases):
         self.bottoms = bottoms
-        self.bases = bases
+        self.primes = bases
         self.levels = []
         row = [1, *bottoms]
         while len(row) > 1:
@@ -34,7 +34,7 @@ class Bottoms:
 
     def of_some(self, places):
         """The bottoms at some places alone."""
-        return Bottoms([self.bottoms[place] for place in places], self.bases)
+        return Bottoms([self.bottoms[place] for place in places], self.primes)
 
     def sum_of_tops(self, tops):
         """The sum of integers, one over each bottom, over the one for all."""
@@ -44,12 +44,12 @@ class Bottoms:
                    *row[2 * len(level):]]
         return row[0]
 
-    def number(self, top, days):
+    def number_over(self, top, days):
         """An integer over the bottom for all and over those of some days."""
         bottom = self.common
         for under in days:
             bottom = bottom * under
-        return over_by(top, bottom, [*self.bases, *days])
+        return over_by(top, bottom, [*self.primes, *days])
 
 
 def times_to_common(one, other):
@@ -117,7 +117,7 @@ class WordsAccount:
         """The purse."""
         if self.purse is None:
             top = self.bottoms.sum_of_tops([sum(list(strand.values())) for strand in self.strands])
-            self.purse = self.bottoms.number(top, self.days)
+            self.purse = self.bottoms.number_over(top, self.days)
         return self.purse
 
     def lying(self):
@@ -125,8 +125,8 @@ class WordsAccount:
         size = self.many // self.goods
         tops = [self.bottoms.sum_of_tops([begun_with(strand, size, good) for strand in self.strands])
                 for good in range(self.goods)]
-        self.purse = self.bottoms.number(sum(tops), self.days)
-        return [self.bottoms.number(top, self.days) for top in tops]
+        self.purse = self.bottoms.number_over(sum(tops), self.days)
+        return [self.bottoms.number_over(top, self.days) for top in tops]
 
     def behind(self, day):
         """The account behind one more day."""
@@ -171,7 +171,7 @@ class CountsAccount:
     def whole(self):
         """The purse."""
         if self.purse is None:
-            self.purse = self.bottoms.number(self._top(all_ways(self.goods, self.left)), self.days)
+            self.purse = self.bottoms.number_over(self._top(all_ways(self.goods, self.left)), self.days)
         return self.purse
 
     def lying(self):
@@ -181,8 +181,8 @@ class CountsAccount:
         many = all_ways(self.goods, self.left)
         tops = [self._top({counts: many[counts] * counts[good] // self.left for counts in many})
                 for good in range(self.goods)]
-        self.purse = self.bottoms.number(sum(tops), self.days)
-        return [self.bottoms.number(top, self.days) for top in tops]
+        self.purse = self.bottoms.number_over(sum(tops), self.days)
+        return [self.bottoms.number_over(top, self.days) for top in tops]
 
     def behind(self, day):
         """The account behind one more day."""

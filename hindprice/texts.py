@@ -59,15 +59,15 @@ class Reader:
     def __init__(self, text):
         if not isinstance(text, str):
             raise BadText(0)
-        self.pieces = text.split(" ")
+        self.all_items = text.split(" ")
         self.at = 0
 
     def take_item(self):
         """The next item, whatever it is."""
-        if self.at == len(self.pieces):
+        if self.at == len(self.all_items):
             raise BadText(self.at)
         self.at += 1
-        return self.pieces[self.at - 1]
+        return self.all_items[self.at - 1]
 
     def take_integer(self, least, most):
         """The integer of the next item, within these bounds, None being none."""
@@ -96,7 +96,7 @@ class Reader:
 
     def is_more(self):
         """Whether an item is left."""
-        return self.at < len(self.pieces)
+        return self.at < len(self.all_items)
 
     def finish(self):
         """No item may be left."""
