@@ -57,16 +57,21 @@ def counts_of(goods, word):
     return tuple(counts)
 
 
-def all_counts(goods, days):
-    """All counts of so many goods with the sum days, ascending."""
-    need_goods(goods)
-    need_days(days)
-    need_few_counts(goods, days)
+def counts_with(goods, days):
+    """All counts of so many goods with the sum days, ascending; nothing is checked."""
     begun = [((), days)]
     for _ in range(goods - 1):
         begun = [((*counts, count), left - count)
                  for counts, left in begun for count in range(left + 1)]
     return tuple([(*counts, left) for counts, left in begun])
+
+
+def all_counts(goods, days):
+    """All counts of so many goods with the sum days, ascending."""
+    need_goods(goods)
+    need_days(days)
+    need_few_counts(goods, days)
+    return counts_with(goods, days)
 
 
 def ways(counts):

@@ -97,6 +97,18 @@ class Purses(Case):
             self.same(even_amounts(goods, market), amounts(goods, market))
             self.same(even_amounts(market=listed(market), goods=goods), amounts(goods, market))
 
+    def test_days_that_come_again(self):
+        chance = random.Random(226)
+        for _ in range(80):
+            goods = chance.randint(1, 3)
+            few = [oracle.some_day(chance, goods) for _ in range(2)]
+            market = [chance.choice(few) for _ in range(chance.randint(0, 6 if goods < 3 else 4))]
+            if market:
+                # Equal as numbers, passed as lists.
+                market[0] = listed(market[0])
+            self.same(even_purse(goods, market), told(purse(goods, market)))
+            self.same(even_amounts(goods, market), amounts(goods, market))
+
     def test_amounts_against_purses(self):
         chance = random.Random(223)
         for goods, days in ((1, 12), (2, 30), (3, 12), (4, 7), (5, 5)):
@@ -135,6 +147,11 @@ class Purses(Case):
             self.raises(COUNTS, even_amounts, goods, [day] * (most + 1))
             self.raises(COUNTS, even_spare, goods, [day] * (most + 1), [1] + [0] * (goods - 1))
         self.same(even_purse(2, [(1, 1)] * 400), 1)
+        # Of 4,999 days there are just 5,000 counts of two goods.
+        self.same(even_purse(2, [(1, 1)] * 4999), 1)
+        self.same(even_amounts(2, [(0, 2)] * 4999) == (told(Fraction(2 ** 4999, 5000 * 5001)), told(Fraction(2 ** 4999, 5001))), True)
+        for call in (even_purse, even_amounts, lambda goods, market: even_spare(goods, market, (1, 0))):
+            self.raises(COUNTS, call, 2, [(1, 1)] * 5000)
         self.same(even_purse(1, [(1,)] * 1000), 1)
 
 
